@@ -1,0 +1,34 @@
+"""What the document's interface lists so far: files, names and parameters."""
+
+FUNCTIONS = {
+    "basics": {"is_integer": ["value"], "is_count": ["value"]},
+    "words": {"is_word": ["letters", "value"], "first_words": ["letters", "length"]},
+    "machines": {
+        "lets": ["machine", "word"], "is_empty": ["machine"], "shortest": ["machine"],
+        "words_of": ["machine", "length"],
+    },
+}
+
+CLASSES = {
+    "machines": {"Machine": (["letters", "steps", "ends"], ["letters", "states"], ["steps", "ends", "__eq__"])},
+}
+
+ERRORS = {
+    ("FillError", "ValueError"): {
+        "InvalidClass": ["value"], "InvalidFilling": ["value"], "InvalidGuesser": ["value"],
+        "InvalidLetters": ["value"], "InvalidLot": ["value"], "InvalidMachine": ["value"], "InvalidMany": ["value"],
+        "InvalidPattern": ["value"], "InvalidPosition": ["value"], "InvalidSayings": ["value"],
+        "InvalidTable": ["value"], "InvalidViews": ["value"], "InvalidWord": ["value"], "InvalidBegins": ["value"],
+        "InvalidClaim": ["value"], "InvalidCommand": ["value"], "InvalidDeeds": ["position"],
+        "InvalidEnds": ["value"], "InvalidLeast": ["value"], "InvalidLength": ["value"],
+        "InvalidMachines": ["value"], "InvalidMost": ["value"], "InvalidName": ["value"], "InvalidPair": ["value"],
+        "InvalidPaper": ["value"], "InvalidPlaces": ["value"], "InvalidReading": ["value"],
+        "InvalidState": ["value"], "InvalidSteps": ["value"], "InvalidText": ["position"], "InvalidWords": ["value"],
+    },
+    ("MissingError", "LookupError"): {"UnknownLabel": ["value"], "UnknownName": ["value"]},
+    ("StateError", "RuntimeError"): {
+        "UnlikeLetters": [], "CommandFailed": ["position"], "LabelTaken": ["label"], "NameTaken": ["name"],
+        "NoneThere": [], "NotOfUse": [], "NotTold": [], "NothingToRedo": [], "NothingToUndo": [],
+    },
+    ("LimitError", "ArithmeticError"): {"TooMany": ["what", "limit"]},
+}
