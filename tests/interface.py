@@ -7,10 +7,29 @@ FUNCTIONS = {
         "lets": ["machine", "word"], "is_empty": ["machine"], "shortest": ["machine"],
         "words_of": ["machine", "length"],
     },
+    "makings": {
+        "of_words": ["letters", "words"], "joined": ["machine", "other"], "met": ["machine", "other"],
+        "without": ["machine", "other"], "behind": ["machine", "other"], "rounds": ["machine"],
+        "is_within": ["machine", "other"], "parting": ["machine", "other"],
+    },
+    "tables": {
+        "class_of": ["table", "word"], "product": ["table", "one", "other"], "passed": ["table", "position"],
+    },
+    "lots": {
+        "widened": ["table", "machine"], "lot_machine": ["table", "lot"], "behind_lots": ["table", "lot", "other"],
+        "rounds_lot": ["table", "lot"], "rest_behind": ["table", "lot", "other"],
+        "rest_ahead": ["table", "lot", "other"],
+    },
+    "pairs": {
+        "pairs": ["table", "position"], "is_pair": ["table", "position", "value"],
+        "pair_over": ["table", "position", "lot"], "first_pair": ["table", "position"],
+        "last_pair": ["table", "position"],
+    },
 }
 
 CLASSES = {
     "machines": {"Machine": (["letters", "steps", "ends"], ["letters", "states"], ["steps", "ends", "__eq__"])},
+    "tables": {"Table": (["machines"], ["letters", "classes"], ["machines", "words", "__eq__"])},
 }
 
 ERRORS = {

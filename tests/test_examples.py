@@ -13,6 +13,34 @@ EXAMPLES = '''
 >>> even = Machine(2, [[1, 0], [0, 1]], [0])
 >>> [even == Machine(2, [[2, 0], [0, 3], [3, 2], [0, 1]], [0, 1]), Machine(1, [[1], [1], [0]], [1, 2]).states, lets(even, "aba"), lets(even, "ab"), is_empty(Machine(1, [[0]], [])), shortest(Machine(2, [[0, 1], [1, 1]], [1])), words_of(even, 2)]
 [False, 2, True, False, True, 'b', ['', 'b', 'aa', 'bb']]
+
+>>> from widefills.makings import behind, is_within, joined, met, of_words, parting, rounds, without
+>>> one, two = of_words(2, ["a"]), of_words(2, ["ab", ""])
+>>> [words_of(joined(one, two), 2), words_of(behind(two, one), 3), words_of(rounds(one), 3), words_of(without(rounds(one), one), 2), is_empty(met(one, two)), is_within(two, rounds(joined(one, two))), parting(even, rounds(one))]
+[['', 'a', 'ab'], ['a', 'aba'], ['', 'a', 'aa', 'aaa'], ['', 'aa'], True, True, 'a']
+
+>>> from widefills.machines import Machine
+>>> from widefills.tables import Table, class_of, passed, product
+>>> even, last = Machine(2, [[1, 0], [0, 1]], [0]), Machine(2, [[1, 0], [1, 0]], [1])
+>>> [Table([even]).words(), Table([last]).words(), Table([even, last]).words(), passed(Table([even]), 0), passed(Table([last]), 0), class_of(Table([last]), "abb"), product(Table([last]), 2, 1)]
+[['', 'a'], ['', 'a', 'b'], ['', 'a', 'b', 'aa', 'ab'], [0], [1], 2, 1]
+>>> [passed(Table([even, last]), 0), passed(Table([even, last]), 1), Table([even, last]) == Table([last, even]), Table([last]).classes]
+[[0, 2, 3], [1, 3], False, 3]
+
+>>> from widefills.lots import behind_lots, lot_machine, rest_ahead, rest_behind, rounds_lot, widened
+>>> from widefills.makings import of_words, rounds
+>>> both = Table([even, last])
+>>> [widened(both, of_words(2, ["", "aa", "aba"])), lot_machine(both, [3, 1]) == last, lot_machine(both, []).ends(), behind_lots(both, [1], [1, 2]), rounds_lot(both, [1]), rounds_lot(both, [])]
+[[0, 3], True, [], [3, 4], [0, 1, 3], [0]]
+>>> [rest_behind(both, [1], [0, 2, 3]), rest_ahead(both, [2], [0, 2, 3]), rest_behind(both, [], [0]), rest_ahead(both, [0], [1, 4]), widened(both, rounds(of_words(2, ["b"])))]
+[[1, 4], [0, 2, 3], [0, 1, 2, 3, 4], [1, 4], [0, 2]]
+
+>>> from widefills.machines import Machine
+>>> from widefills.tables import Table
+>>> from widefills.pairs import first_pair, is_pair, last_pair, pair_over, pairs
+>>> even = Table([Machine(2, [[1, 0], [0, 1]], [0])])
+>>> [even.words(), pairs(even, 0), first_pair(even, 0), last_pair(even, 0), pair_over(even, 0, [1]), pair_over(even, 0, []), is_pair(even, 0, ([0, 1], [])), is_pair(even, 0, ([0], []))]
+[['', 'a'], [([], [0, 1]), ([0], [0]), ([0, 1], []), ([1], [1])], 1, 1, ([1], [1]), ([], [0, 1]), True, False]
 '''
 
 

@@ -1,7 +1,7 @@
 """Machines, always told in their least form."""
 
 from widefills.basics import are_unlike_below, is_below, is_listing
-from widefills.errors import InvalidEnds, InvalidMachine, InvalidSteps
+from widefills.errors import InvalidEnds, InvalidMachine, InvalidSteps, UnlikeLetters
 from widefills.least import first_words_to, least_form
 from widefills.words import SIGNS, check_length, check_letters, check_word, first_words
 
@@ -66,6 +66,12 @@ def check_machine(machine):
     """Raise unless this is a Machine."""
     if not isinstance(machine, Machine):
         raise InvalidMachine(machine)
+
+
+def check_like_letters(one, other):
+    """Raise unless both, Machines or what else has letters, have as many."""
+    if one.letters != other.letters:
+        raise UnlikeLetters()
 
 
 def led_to(machine, word):
