@@ -25,6 +25,28 @@ FUNCTIONS = {
         "pair_over": ["table", "position", "lot"], "first_pair": ["table", "position"],
         "last_pair": ["table", "position"],
     },
+    "middles": {
+        "middle": ["table", "position", "near", "far"], "middles": ["table", "position"],
+        "joined_fillings": ["table", "position", "many"], "way_of": ["table", "position", "lots"],
+        "is_way": ["table", "position", "lots", "value"],
+    },
+    "patterns": {
+        "is_pattern": ["letters", "value"], "names_of": ["letters", "pattern"],
+        "made": ["letters", "pattern", "filling"], "made_lot": ["table", "pattern", "lots"],
+        "is_mixed": ["letters", "pattern", "value"], "are_alike": ["letters", "pattern", "other"],
+        "mixed_parting": ["letters", "pattern", "other"],
+    },
+    "readings": {
+        "read_word": ["reading"], "is_reading": ["letters", "pattern", "filling", "value"],
+        "stays_within": ["table", "position", "pattern", "lots"], "outside": ["table", "position", "pattern", "lots"],
+        "is_outside": ["table", "position", "pattern", "lots", "value"],
+    },
+    "greatest": {
+        "is_right": ["table", "sayings", "lots"], "greatest": ["table", "many", "sayings"],
+        "is_greatest": ["table", "many", "sayings", "value"], "above": ["table", "many", "sayings", "lots"],
+        "growing_break": ["table", "sayings", "lots", "name", "one"],
+        "is_growing_break": ["table", "sayings", "lots", "name", "one", "value"],
+    },
 }
 
 CLASSES = {

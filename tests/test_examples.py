@@ -1,7 +1,8 @@
-"""The examples of the document, as they stand there."""
+"""The examples of the document, as they stand there, and those of README.md."""
 
 import doctest
 import unittest
+from pathlib import Path
 
 EXAMPLES = '''
 >>> from widefills.basics import is_count, is_integer
@@ -41,13 +42,53 @@ EXAMPLES = '''
 >>> even = Table([Machine(2, [[1, 0], [0, 1]], [0])])
 >>> [even.words(), pairs(even, 0), first_pair(even, 0), last_pair(even, 0), pair_over(even, 0, [1]), pair_over(even, 0, []), is_pair(even, 0, ([0, 1], [])), is_pair(even, 0, ([0], []))]
 [['', 'a'], [([], [0, 1]), ([0], [0]), ([0, 1], []), ([1], [1])], 1, 1, ([1], [1]), ([], [0, 1]), True, False]
+
+>>> from widefills.middles import is_way, joined_fillings, middle, middles, way_of
+>>> [middle(even, 0, 1, 3), middles(even, 0)[2], joined_fillings(even, 0, 1), joined_fillings(even, 0, 2), is_way(even, 0, [[1], [1]], [1, 3, 1]), is_way(even, 0, [[1], [1]], [1, 1, 1]), way_of(even, 0, [[0], [1]])]
+[[1], [[], [], [0, 1], []], [[[0]]], [[[], [0, 1]], [[0], [0]], [[0, 1], []], [[1], [1]]], True, False, None]
+
+>>> from widefills.machines import Machine
+>>> from widefills.makings import of_words
+>>> from widefills.patterns import are_alike, is_mixed, is_pattern, made, made_lot, mixed_parting, names_of
+>>> from widefills.tables import Table
+
+>>> x, table = ("name", 0), Table([Machine(2, [[1, 0], [0, 1]], [0])])
+>>> [is_pattern(1, ("behind", x, ("word", "b"))), names_of(2, ("either", ("name", 2), ("round", x))), made(2, ("behind", x, ("word", "a")), [of_words(2, ["b", ""])]) == of_words(2, ["a", "ba"]), made_lot(table, ("behind", x, x), [[1]]), made_lot(table, ("round", x), [[]])]
+[False, [0, 2], True, [0], [0]]
+>>> many, more = ("round", ("word", "a")), ("round", ("either", ("word", "a"), x))
+>>> [is_mixed(1, ("behind", x, ("word", "aa")), (0, "a", "a")), is_mixed(1, many, ["aa"]), are_alike(1, many, ("round", many)), are_alike(1, many, more), mixed_parting(1, many, more)]
+[True, False, True, False, [0]]
+
+>>> from widefills.readings import is_outside, is_reading, stays_within, outside, read_word
+>>> [read_word(("behind", ("name", 0, "ba"), ("round", [("word", "a"), ("word", "a")]))), is_reading(2, ("round", x), [of_words(2, ["ab"])], ("round", (("name", 0, "ab"),))), is_reading(2, x, [of_words(2, ["ab"])], ("name", 0, "a"))]
+['baaa', True, False]
+>>> [stays_within(table, 0, ("behind", x, x), [[1]]), outside(table, 0, ("behind", x, x), [[0]]), outside(table, 0, ("behind", x, ("word", "a")), [[0]]), is_outside(table, 0, ("behind", x, x), [[0, 1]], ("behind", ("name", 0, "bb"), ("name", 0, "aba")))]
+[True, None, ('behind', ('name', 0, ''), ('word', 'a')), False]
+
+>>> from widefills.greatest import above, greatest, growing_break, is_greatest, is_growing_break, is_right
+>>> from widefills.machines import Machine
+>>> from widefills.tables import Table
+>>> twos, named, other = Table([Machine(2, [[1, 0], [0, 1]], [0])]), ("name", 0), ("name", 1)
+
+>>> both, joined = [(("behind", named, named), 0)], [(("behind", named, other), 0)]
+>>> [greatest(twos, 1, both), greatest(twos, 2, joined), is_right(twos, both, [[0, 1]]), above(twos, 2, joined, [[1], [1]]), above(twos, 1, both, [[0, 1]]), is_greatest(twos, 1, both, ([1],))]
+[[[[0]], [[1]]], [[[], [0, 1]], [[0], [0]], [[0, 1], []], [[1], [1]]], False, [[1], [1]], None, True]
+>>> [growing_break(twos, joined, [[], [0, 1]], 1, 0), is_growing_break(twos, both, [[0]], 0, 1, (0, ("behind", ("name", 0, "ab"), ("name", 0, "b")))), is_growing_break(twos, both, [[0]], 0, 1, (0, ("behind", ("name", 0, "a"), ("name", 0, "a"))))]
+[None, True, False]
 '''
 
 
 class Examples(unittest.TestCase):
 
-    def test_examples(self):
-        examples = doctest.DocTestParser().get_doctest(EXAMPLES, {}, "document", "DOC.md", 0)
+    def test_document(self):
+        self.run_all(EXAMPLES)
+
+    def test_readme(self):
+        text = (Path(__file__).resolve().parent.parent / "README.md").read_text()
+        self.run_all("\n".join(text.split("```")[1::2]))
+
+    def run_all(self, text):
+        examples = doctest.DocTestParser().get_doctest(text, {}, "examples", None, 0)
         self.assertGreater(len(examples.examples), 0)
         answers = []
         result = doctest.DocTestRunner().run(examples, out=answers.append)

@@ -59,6 +59,8 @@ class Language(unittest.TestCase):
                 self.assertNotIsInstance(node, BARRED_NODES, (name, getattr(node, "lineno", 0)))
                 if isinstance(node, ast.Constant):
                     self.assertNotIsInstance(node.value, (float, complex), name)
+                if isinstance(node, ast.Set):
+                    self.assertFalse([part for part in node.elts if isinstance(part, ast.Starred)], name)
             for node in tree.body:
                 self.assertIsInstance(node, (ast.ImportFrom, ast.FunctionDef, ast.ClassDef, ast.Assign, ast.Expr), name)
 
