@@ -47,11 +47,30 @@ FUNCTIONS = {
         "growing_break": ["table", "sayings", "lots", "name", "one"],
         "is_growing_break": ["table", "sayings", "lots", "name", "one", "value"],
     },
+    "bounds": {
+        "bounded": ["table", "many", "sayings", "least", "most"],
+        "fits": ["table", "sayings", "least", "most", "lots"],
+    },
+    "mades": {
+        "is_made": ["table", "position", "pattern"], "making": ["table", "position", "pattern"],
+        "is_making": ["table", "position", "pattern", "value"], "lost": ["table", "position", "pattern", "lots"],
+        "losses": ["table", "position", "pattern"], "is_losses": ["table", "position", "pattern", "value"],
+    },
+    "roots": {
+        "is_round": ["machine"], "root": ["machine"], "is_root": ["machine", "other"],
+        "power_lots": ["table", "position", "many"],
+    },
+    "guessers": {
+        "tells": ["guesser"], "is_of_use": ["guesser"], "of_use": ["guesser"], "merged": ["guesser", "near", "far"],
+    },
 }
 
 CLASSES = {
     "machines": {"Machine": (["letters", "steps", "ends"], ["letters", "states"], ["steps", "ends", "__eq__"])},
     "tables": {"Table": (["machines"], ["letters", "classes"], ["machines", "words", "__eq__"])},
+    "guessers": {
+        "Guesser": (["letters", "steps", "begins", "ends"], ["letters", "states"], ["steps", "begins", "ends", "__eq__"]),
+    },
 }
 
 ERRORS = {

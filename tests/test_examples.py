@@ -75,6 +75,39 @@ EXAMPLES = '''
 [[[[0]], [[1]]], [[[], [0, 1]], [[0], [0]], [[0, 1], []], [[1], [1]]], False, [[1], [1]], None, True]
 >>> [growing_break(twos, joined, [[], [0, 1]], 1, 0), is_growing_break(twos, both, [[0]], 0, 1, (0, ("behind", ("name", 0, "ab"), ("name", 0, "b")))), is_growing_break(twos, both, [[0]], 0, 1, (0, ("behind", ("name", 0, "a"), ("name", 0, "a"))))]
 [None, True, False]
+
+>>> from widefills.bounds import bounded, fits
+>>> from widefills.makings import of_words
+>>> odd = of_words(2, ["a", "bab"])
+>>> [bounded(twos, 1, both, [odd], [None]), bounded(twos, 1, both, [None], [0]), bounded(twos, 1, both, [odd], [0]), bounded(twos, 2, joined, [odd, None], [None, 0]), fits(twos, both, [odd], [None], [[1]]), fits(twos, both, [odd], [None], [[0]])]
+[[[[1]]], [[[0]]], [], [[[0, 1], []]], True, False]
+
+>>> from widefills.machines import Machine
+>>> from widefills.mades import is_losses, is_made, is_making, losses, lost, making
+>>> from widefills.tables import Table
+>>> even = Machine(2, [[1, 0], [0, 1]], [0])
+
+>>> table, twice = Table([even]), ("behind", ("name", 0), ("name", 0))
+>>> amid = ("behind", ("name", 0), ("behind", ("word", "a"), ("name", 0)))
+>>> [is_made(table, 0, twice), making(table, 0, twice), is_making(table, 0, twice, ((1,),)), lost(table, 0, twice, [[1]]), lost(table, 0, twice, [[0]]), losses(table, 0, twice)]
+[True, [[0]], False, '', None, None]
+>>> [is_made(table, 0, amid), losses(table, 0, amid), is_losses(table, 0, amid, [([[]], "aba")]), is_losses(table, 0, amid, [([[]], "a")]), is_losses(table, 0, twice, [([[1]], "")])]
+[False, [([[]], '')], True, False, False]
+
+>>> from widefills.machines import words_of
+>>> from widefills.makings import of_words
+>>> from widefills.roots import is_root, is_round, power_lots, root
+
+>>> [is_round(even), words_of(root(even), 4), is_root(even, root(even)), is_root(even, even), is_root(even, of_words(2, ["b"])), is_round(of_words(2, ["a"])), root(of_words(2, []))]
+[True, ['b', 'aa', 'aba', 'abba'], True, True, False, False, None]
+>>> [power_lots(table, 0, many) for many in [1, 2, 3]]
+[[[0]], [[0], [1]], [[0]]]
+
+>>> from widefills.guessers import Guesser, is_of_use, merged, of_use, tells
+>>> from widefills.machines import words_of
+>>> pick = Guesser(2, [[[0, 1], [0]], [[], []], [[2], [2]]], [0], [1])
+>>> [words_of(tells(pick), 2), is_of_use(pick), of_use(pick).steps(), words_of(tells(merged(pick, 1, 0)), 1), pick.states, tells(Guesser(1, [], [], [])).ends()]
+[['a', 'aa', 'ba'], False, [[[0, 1], [0]], [[], []]], ['', 'a', 'b'], 3, []]
 '''
 
 

@@ -43,6 +43,17 @@ def far_from_the_end(many):
     return steps, 1, 1 << many
 
 
+def cycles(*lengths):
+    """Words of a whose length some of these does not divide, by a cycle of each length."""
+    rows, begins, ends = [], 0, 0
+    for many in lengths:
+        first = len(rows)
+        rows += [1 << (first + (state + 1) % many) for state in range(many)]
+        begins |= 1 << first
+        ends |= sum(1 << (first + state) for state in range(1, many))
+    return [rows], begins, ends
+
+
 class Guesses(unittest.TestCase):
 
     def test_against_all_subsets(self):
@@ -70,6 +81,18 @@ class Guesses(unittest.TestCase):
         for rows in steps:
             rows.append(1 << 41)
         self.assertEqual(least_of_guesses(steps, begins | 1 << 41, ends | 1 << 41), ([[0, 0]], [0]))
+
+    def test_first_wrong_far_away(self):
+        """All words are told but those whose length is a multiple of all lengths."""
+        for lengths, many in (((3, 4), 12), ((4, 5), 20), ((3, 4, 5), 60)):
+            self.assertEqual(least_of_guesses(*cycles(*lengths)), (
+                [[(state + 1) % many] for state in range(many)], list(range(1, many))))
+        for lengths in ((7, 9), (3, 5, 7), (2, 3, 5, 7, 11), (3, 5, 7, 11)):
+            error = stopped(self, TooMany, least_of_guesses, *cycles(*lengths))
+            self.assertEqual((error.what, error.limit), ("states", 60))
+        rows, begins, ends = cycles(2, 3, 5, 7, 11)
+        # With both states of the cycle of two as ends all words are told.
+        self.assertEqual(least_of_guesses(rows, begins, ends | 1), ([[0]], [0]))
 
     def test_nothing_told(self):
         self.assertEqual(least_of_guesses([[0], [0]], 0, 1), ([[0, 0]], []))

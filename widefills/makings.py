@@ -113,8 +113,13 @@ def is_within(machine, other):
     return not ends
 
 
+def first_wanted(machine, other, wanted):
+    """The first of the wanted words, of whatever length, None if there are none."""
+    steps, ends = led_at_once(machine, other, wanted)
+    return first_words_to(steps)[ends[0]] if ends else None
+
+
 def parting(machine, other):
     """The first word that just one of both lets, None if they are equal."""
     check_two(machine, other)
-    steps, ends = led_at_once(machine, other, WANTED_OF_JUST_ONE)
-    return first_words_to(steps)[ends[0]] if ends else None
+    return first_wanted(machine, other, WANTED_OF_JUST_ONE)

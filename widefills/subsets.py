@@ -2,10 +2,13 @@
 
 States are bits, a lot of states is an integer, its SUBSET. Making all subsets may take endlessly long, also where the
 least machine is small, or is soon seen to be too large. So only as many subsets are kept as words found so far, the
-TESTS, tell apart. Whether the others are like those that stand for them is then shown, or a further test is found.
+TESTS, tell apart: these are the KINDS. Whether they tell just what is guessed is then shown, or a word is found by
+whose endings more of them are told apart.
 """
 
-from widefills.errors import TooMany
+from heapq import heappop, heappush
+
+from widefills.fillings import lot_of
 from widefills.least import GREATEST_STATES, explored
 
 
@@ -44,17 +47,18 @@ def least_of_guesses(steps, begins, ends):
     steps are, for each letter, the rows: for each state the subset of its next states. TooMany as of least_form.
     """
     alive = leading_to(steps, ends)
-    steps = [[row & alive for row in rows] for rows in steps]
+    steps, begins = [[row & alive for row in rows] for rows in steps], begins & alive
     tests = [ends]
     while True:
-        kept, leads = told_apart(steps, begins & alive, tests)
-        word = first_unlike(steps, ends, kept, leads)
-        if word is None:
-            return leads, [at for at, subset in enumerate(kept) if subset & ends]
-        test = ends
-        for letter in reversed(list(word)):
-            test = stepped_back(steps[letter], test)
-        tests.append(test)
+        kept, leads = told_apart(steps, begins, tests)
+        stops = [kind for kind, subset in enumerate(kept) if subset & ends]
+        letters = told_beyond(steps, begins, ends, leads, stops)
+        if letters is None:
+            letters = let_beyond(steps, begins, ends, leads, stops)
+        if letters is None:
+            return leads, stops
+        # Where the kinds go wrong on a word, some ending of it parts two subsets of one kind.
+        tests = tests + endings(steps, ends, letters, tests)
 
 
 def told_apart(steps, begins, tests):
@@ -73,32 +77,80 @@ def marks(subset, tests):
     return tuple([bool(subset & test) for test in tests])
 
 
-def first_unlike(steps, ends, kept, leads):
-    """The letters of a word that parts a subset led to and the kept one that stands for it, None if none does."""
-    asked = [(stepped(rows, subset), kept[leads[at][letter]], ())
-             for at, subset in enumerate(kept) for letter, rows in enumerate(steps)]
-    alike, done = [], 0
-    while done < len(asked):
-        near, far, word = asked[done]
-        done += 1
-        if bool(near & ends) != bool(far & ends):
-            return word
-        # What follows from pairs that are asked already need not be asked: where both of a pair let the same words,
-        # they do so with any further states. (Bonchi and Pous: bisimulation up to congruence.)
-        if filled(near, alike) == filled(far, alike):
-            continue
-        alike.append((near, far))
+def endings(steps, ends, letters, tests):
+    """The tests that are not there yet, of the endings of a word: the subsets from which they lead to an end."""
+    found, test, known = [], ends, {one: True for one in tests}
+    for letter in reversed(letters):
+        test = stepped_back(steps[letter], test)
+        if test not in known:
+            known[test] = True
+            found.append(test)
+    return found
+
+
+def told_beyond(steps, begins, ends, leads, stops):
+    """The letters of a word that is guessed, and that the kinds do not let; None if there is none."""
+    # For each kind all states that are come to together with it: each of them is gone on with once.
+    reached = [0] * len(leads)
+
+    def fresh(kind, subset):
+        states = subset & ~reached[kind]
+        reached[kind] |= states
+        return states or None
+
+    def is_wrong(kind, subset):
+        return bool(subset & ends) and kind not in stops
+
+    return first_wrong(steps, begins, leads, fresh, is_wrong)
+
+
+def let_beyond(steps, begins, ends, leads, stops):
+    """The letters of a word that the kinds let, and that is not guessed; None if there is none."""
+    # What is wrong of a subset is so of those within it. So those within which another one of the kind lies are not
+    # gone on with. (De Wulf, Doyen, Henzinger, Raskin 2006: antichains.)
+    seen = [[] for _ in leads]
+
+    def fresh(kind, subset):
+        if any([less & ~subset == 0 for less in seen[kind]]):
+            return None
+        seen[kind].append(subset)
+        return subset
+
+    def is_wrong(kind, subset):
+        return kind in stops and not subset & ends
+
+    return first_wrong(steps, begins, leads, fresh, is_wrong)
+
+
+def first_wrong(steps, begins, leads, fresh, is_wrong):
+    """The letters of the first word found that is wrong, by the kind and the subset to which it leads.
+
+    fresh(kind, subset) is what of the subset is gone on with, None if nothing is.
+    """
+    begin = fresh(0, begins)
+    asked, whence, queue = [(0, begin)], [None], [(0, 0)]
+    if begin is None:
+        return None
+    # Small subsets come first: from them words that are not guessed are soonest found, and most others hold them.
+    while queue:
+        _, place = heappop(queue)
+        kind, subset = asked[place]
+        if is_wrong(kind, subset):
+            return letters_to(whence, place)
         for letter, rows in enumerate(steps):
-            asked.append((stepped(rows, near), stepped(rows, far), (*word, letter)))
+            after = leads[kind][letter]
+            states = fresh(after, stepped(rows, subset))
+            if states is not None:
+                heappush(queue, (len(lot_of(states)), len(asked)))
+                asked.append((after, states))
+                whence.append((place, letter))
     return None
 
 
-def filled(subset, alike):
-    """The subset with all states that can be put in by pairs of alike subsets."""
-    before = None
-    while before != subset:
-        before = subset
-        for near, far in alike:
-            if near & subset == near or far & subset == far:
-                subset |= near | far
-    return subset
+def letters_to(whence, place):
+    """The letters by which the place was come to; whence tells of each place the one ahead of it, and a letter."""
+    found = []
+    while whence[place] is not None:
+        place, letter = whence[place]
+        found.append(letter)
+    return found[::-1]
