@@ -79,6 +79,16 @@ class Language(unittest.TestCase):
                     for alias in node.names:
                         self.assertIn(alias.name, own, (name, node.module))
 
+    def test_no_imports_in_a_ring(self):
+        files = {name[:-3]: [node.module.split(".")[1] for node in ast.walk(tree)
+                             if isinstance(node, ast.ImportFrom) and node.module.startswith("widefills.")]
+                 for name, tree in trees()}
+        done = []
+        while len(done) < len(files):
+            free = [name for name in files if name not in done and all(part in done for part in files[name])]
+            self.assertTrue(free, sorted(set(files) - set(done)))
+            done += free
+
     def test_names(self):
         """No name means two things: a builtin, an import or a class of the file, and a variable."""
         for name, tree in trees():
