@@ -4,7 +4,7 @@ from widefills.basics import are_unlike_below, is_below, is_listing
 from widefills.errors import InvalidBegins, InvalidEnds, InvalidGuesser, InvalidState, InvalidSteps
 from widefills.fillings import mask_of
 from widefills.makings import told_by_guesses
-from widefills.subsets import leading_to, stepped
+from widefills.subsets import leading_to, led_from
 from widefills.words import check_letters
 
 GREATEST_GUESSER = 40
@@ -79,16 +79,6 @@ def tells(guesser):
     check_guesser(guesser)
     begins, ends = mask_of(guesser.begins()), mask_of(guesser.ends())
     return told_by_guesses(guesser.letters, step_masks(guesser), begins, ends)
-
-
-def led_from(steps, begins):
-    """The states to which some word leads from a begin."""
-    found, grown = 0, begins
-    while found != grown:
-        found = grown
-        for rows in steps:
-            grown |= stepped(rows, grown)
-    return found
 
 
 def states_of_use(guesser):

@@ -6,7 +6,7 @@ told by numbers, in their sequence: the letters first, then the names.
 
 from widefills.fillings import MOST_NAMES, lot_of
 from widefills.least import numbered
-from widefills.subsets import stepped
+from widefills.subsets import stepped, way_to
 from widefills.words import SIGNS
 
 
@@ -97,7 +97,7 @@ def first_parting(letters, pattern, other):
     while done < len(asked):
         near, far = asked[done]
         if bool(near & ends) != bool(far & ends):
-            return things_to(whence, done)
+            return way_to(whence, done)
         for thing, rows in enumerate(steps):
             both = stepped(rows, near), stepped(rows, far)
             if both[0] != both[1] and both not in seen:
@@ -106,12 +106,3 @@ def first_parting(letters, pattern, other):
                 whence.append((done, thing))
         done += 1
     return None
-
-
-def things_to(whence, place):
-    """The numbers of the things by which the place was come to."""
-    found = []
-    while whence[place] is not None:
-        place, thing = whence[place]
-        found.append(thing)
-    return found[::-1]

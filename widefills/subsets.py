@@ -31,14 +31,24 @@ def stepped_back(rows, subset):
     return found
 
 
-def leading_to(steps, ends):
-    """The states from which some word leads to an end."""
-    found, grown = 0, ends
+def moved_on(move, steps, subset):
+    """The states that are come to by moves of any letters, however many, from some state of the subset."""
+    found, grown = 0, subset
     while found != grown:
         found = grown
         for rows in steps:
-            grown |= stepped_back(rows, grown)
+            grown |= move(rows, grown)
     return found
+
+
+def leading_to(steps, ends):
+    """The states from which some word leads to an end."""
+    return moved_on(stepped_back, steps, ends)
+
+
+def led_from(steps, begins):
+    """The states to which some word leads from a begin."""
+    return moved_on(stepped, steps, begins)
 
 
 def least_of_guesses(steps, begins, ends):
@@ -136,7 +146,7 @@ def first_wrong(steps, begins, leads, fresh, is_wrong):
         _, place = heappop(queue)
         kind, subset = asked[place]
         if is_wrong(kind, subset):
-            return letters_to(whence, place)
+            return way_to(whence, place)
         for letter, rows in enumerate(steps):
             after = leads[kind][letter]
             states = fresh(after, stepped(rows, subset))
@@ -147,8 +157,8 @@ def first_wrong(steps, begins, leads, fresh, is_wrong):
     return None
 
 
-def letters_to(whence, place):
-    """The letters by which the place was come to; whence tells of each place the one ahead of it, and a letter."""
+def way_to(whence, place):
+    """The letters by which the place was come to: whence tells of each place the one ahead of it, and a letter."""
     found = []
     while whence[place] is not None:
         place, letter = whence[place]
