@@ -63,6 +63,22 @@ FUNCTIONS = {
     "guessers": {
         "tells": ["guesser"], "is_of_use": ["guesser"], "of_use": ["guesser"], "merged": ["guesser", "near", "far"],
     },
+    "universals": {
+        "universal": ["table", "position"], "part": ["table", "position", "places"],
+        "map_to": ["table", "position", "guesser"], "is_map": ["table", "position", "guesser", "value"],
+    },
+    "fewest": {
+        "fewest": ["table", "position"], "least_guesser": ["table", "position"],
+        "fewest_places": ["table", "position"], "lost_by": ["table", "position", "places"],
+    },
+    "views": {
+        "readings_of": ["views", "word"], "opened": ["views", "machine"], "is_sure": ["machine", "views", "word"],
+        "leaving": ["machine", "views", "word"], "is_leaving": ["machine", "views", "word", "value"],
+    },
+    "answers": {
+        "answer": ["machine", "views"], "is_exact": ["machine", "views"], "lost_word": ["machine", "views"],
+        "needless": ["machine", "views"],
+    },
 }
 
 CLASSES = {

@@ -108,6 +108,34 @@ EXAMPLES = '''
 >>> pick = Guesser(2, [[[0, 1], [0]], [[], []], [[2], [2]]], [0], [1])
 >>> [words_of(tells(pick), 2), is_of_use(pick), of_use(pick).steps(), words_of(tells(merged(pick, 1, 0)), 1), pick.states, tells(Guesser(1, [], [], [])).ends()]
 [['a', 'aa', 'ba'], False, [[[0, 1], [0]], [[], []]], ['', 'a', 'b'], 3, []]
+
+>>> from widefills.machines import Machine
+>>> from widefills.tables import Table
+>>> from widefills.universals import is_map, map_to, part, universal
+>>> evens, two = Table([Machine(2, [[1, 0], [0, 1]], [0])]), Guesser(2, [[[1], [0]], [[0], [1]]], [0], [0])
+
+>>> one = universal(evens, 0)
+>>> [one.begins(), one.ends(), one.steps()[1], one.steps()[2], tells(one) == evens.machines()[0], part(evens, 0, (3, 1)) == two]
+[[1, 2], [0, 1], [[2, 3], [1, 2]], [[2], [2]], True, True]
+>>> [map_to(evens, 0, two), is_map(evens, 0, two, [1, 3]), is_map(evens, 0, two, [1, 1]), is_map(evens, 0, Guesser(2, [], [], []), ())]
+[[1, 3], True, False, True]
+
+>>> from widefills.fewest import fewest, fewest_places, least_guesser, lost_by
+>>> [fewest(evens, 0), fewest_places(evens, 0), lost_by(evens, 0, [1]), lost_by(evens, 0, [3, 1, 0]), tells(least_guesser(evens, 0)) == evens.machines()[0], fewest(Table([Machine(1, [[0]], [])]), 0)]
+[2, [[1, 3]], 'aa', None, True, 0]
+
+>>> from widefills.views import is_leaving, is_sure, leaving, opened, readings_of
+>>> odd, b = Machine(2, [[1, 0], [0, 1]], [1]), of_words(2, ["b"])
+>>> [words_of(readings_of([odd, b], "ab"), 3), words_of(opened([odd], Machine(1, [[1], [0]], [0])), 3), is_sure(even, [odd], "aa"), is_sure(even, [odd], "a"), is_sure(even, [of_words(2, [])], "a")]
+[['ab', 'abb', 'bab'], ['', 'aa', 'aab', 'aba', 'baa'], True, False, True]
+>>> [leaving(even, [odd], "aa"), is_leaving(even, [odd], "a", ["a"]), is_leaving(even, [odd], "a", ["aa"]), is_leaving(even, [odd, b], "ab", ("ba", "b")), is_leaving(even, [odd], "a", "a"), is_leaving(even, [odd], "a", leaving(even, [odd], "a"))]
+[None, True, False, True, False, True]
+
+>>> from widefills.answers import answer, is_exact, lost_word, needless
+>>> [answer(even, [odd]) == Machine(1, [[1], [0]], [0]), answer(even, [of_words(2, [])]) == Machine(1, [[0]], [0]), words_of(answer(even, [odd, b]), 2)]
+[True, True, ['', 'b', 'aa', 'bb']]
+>>> [is_exact(even, [odd]), lost_word(even, [odd]), is_exact(even, [odd, b]), lost_word(even, [odd, b]), needless(even, [odd, b, even]), needless(even, [odd])]
+[False, 'b', True, None, [0, 1, 2], []]
 '''
 
 

@@ -29,8 +29,11 @@ def check_lots(table, lots):
 
 
 def mask_of(lot):
-    """The lot as an integer, a bit for each class."""
-    return sum([1 << one for one in lot])
+    """The lot as an integer, a bit for each class, however often it is told."""
+    mask = 0
+    for one in lot:
+        mask |= 1 << one
+    return mask
 
 
 def lot_of(mask):

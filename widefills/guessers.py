@@ -4,8 +4,8 @@ from widefills.basics import are_unlike_below, is_below, is_listing
 from widefills.errors import InvalidBegins, InvalidEnds, InvalidGuesser, InvalidState, InvalidSteps
 from widefills.fillings import mask_of
 from widefills.makings import told_by_guesses
-from widefills.subsets import leading_to, led_from
-from widefills.words import check_letters
+from widefills.subsets import alive, leading_to, led_from, let_beyond, no_weight, told_beyond
+from widefills.words import SIGNS, check_letters
 
 GREATEST_GUESSER = 40
 
@@ -72,6 +72,24 @@ def step_masks(guesser):
     """For each letter, for each state, the next states as an integer, a bit for each."""
     steps = guesser.steps()
     return [[mask_of(row[letter]) for row in steps] for letter in range(guesser.letters)]
+
+
+def first_mistold(guesser, machine):
+    """The first word, of whatever length, that is told and that the machine does not let; None if there is none."""
+    return first_beyond(told_beyond, guesser, machine)
+
+
+def first_untold(guesser, machine):
+    """The first word, of whatever length, that the machine lets and that is not told; None if there is none."""
+    return first_beyond(let_beyond, guesser, machine)
+
+
+def first_beyond(beyond, guesser, machine):
+    """The first word by whose letters one of both goes beyond the other."""
+    ends = mask_of(guesser.ends())
+    steps, begins = alive(step_masks(guesser), mask_of(guesser.begins()), ends)
+    letters = beyond(steps, begins, ends, machine.steps(), machine.ends(), no_weight)
+    return None if letters is None else "".join([SIGNS[letter] for letter in letters])
 
 
 def tells(guesser):

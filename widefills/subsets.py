@@ -56,19 +56,24 @@ def least_of_guesses(steps, begins, ends):
 
     steps are, for each letter, the rows: for each state the subset of its next states. TooMany as of least_form.
     """
-    alive = leading_to(steps, ends)
-    steps, begins = [[row & alive for row in rows] for rows in steps], begins & alive
+    steps, begins = alive(steps, begins, ends)
     tests = [ends]
     while True:
         kept, leads = told_apart(steps, begins, tests)
         stops = [kind for kind, subset in enumerate(kept) if subset & ends]
-        letters = told_beyond(steps, begins, ends, leads, stops)
+        letters = told_beyond(steps, begins, ends, leads, stops, size_of)
         if letters is None:
-            letters = let_beyond(steps, begins, ends, leads, stops)
+            letters = let_beyond(steps, begins, ends, leads, stops, size_of)
         if letters is None:
             return leads, stops
         # Where the kinds go wrong on a word, some ending of it parts two subsets of one kind.
         tests = tests + endings(steps, ends, letters, tests)
+
+
+def alive(steps, begins, ends):
+    """The steps and the begins, of the states alone from which some word leads to an end."""
+    kept = leading_to(steps, ends)
+    return [[row & kept for row in rows] for rows in steps], begins & kept
 
 
 def told_apart(steps, begins, tests):
@@ -98,8 +103,11 @@ def endings(steps, ends, letters, tests):
     return found
 
 
-def told_beyond(steps, begins, ends, leads, stops):
-    """The letters of a word that is guessed, and that the kinds do not let; None if there is none."""
+def told_beyond(steps, begins, ends, leads, stops, weigh):
+    """The letters of a word that is guessed, and that the kinds do not let; None if there is none.
+
+    Subsets that weigh(subset) less are gone on with first. If all weigh as much, it is the first one in the sequence.
+    """
     # For each kind all states that are come to together with it: each of them is gone on with once.
     reached = [0] * len(leads)
 
@@ -111,11 +119,11 @@ def told_beyond(steps, begins, ends, leads, stops):
     def is_wrong(kind, subset):
         return bool(subset & ends) and kind not in stops
 
-    return first_wrong(steps, begins, leads, fresh, is_wrong)
+    return first_wrong(steps, begins, leads, fresh, is_wrong, weigh)
 
 
-def let_beyond(steps, begins, ends, leads, stops):
-    """The letters of a word that the kinds let, and that is not guessed; None if there is none."""
+def let_beyond(steps, begins, ends, leads, stops, weigh):
+    """The letters of a word that the kinds let, and that is not guessed, found likewise; None if there is none."""
     # What is wrong of a subset is so of those within it. So those within which another one of the kind lies are not
     # gone on with. (De Wulf, Doyen, Henzinger, Raskin 2006: antichains.)
     seen = [[] for _ in leads]
@@ -129,10 +137,20 @@ def let_beyond(steps, begins, ends, leads, stops):
     def is_wrong(kind, subset):
         return kind in stops and not subset & ends
 
-    return first_wrong(steps, begins, leads, fresh, is_wrong)
+    return first_wrong(steps, begins, leads, fresh, is_wrong, weigh)
 
 
-def first_wrong(steps, begins, leads, fresh, is_wrong):
+def size_of(subset):
+    """How many states there are. From small subsets words that are not guessed are soonest found."""
+    return len(lot_of(subset))
+
+
+def no_weight(_):
+    """0, for all subsets: the first ones found are gone on with first."""
+    return 0
+
+
+def first_wrong(steps, begins, leads, fresh, is_wrong, weigh):
     """The letters of the first word found that is wrong, by the kind and the subset to which it leads.
 
     fresh(kind, subset) is what of the subset is gone on with, None if nothing is.
@@ -141,7 +159,6 @@ def first_wrong(steps, begins, leads, fresh, is_wrong):
     asked, whence, queue = [(0, begin)], [None], [(0, 0)]
     if begin is None:
         return None
-    # Small subsets come first: from them words that are not guessed are soonest found, and most others hold them.
     while queue:
         _, place = heappop(queue)
         kind, subset = asked[place]
@@ -151,7 +168,7 @@ def first_wrong(steps, begins, leads, fresh, is_wrong):
             after = leads[kind][letter]
             states = fresh(after, stepped(rows, subset))
             if states is not None:
-                heappush(queue, (len(lot_of(states)), len(asked)))
+                heappush(queue, (weigh(states), len(asked)))
                 asked.append((after, states))
                 whence.append((place, letter))
     return None
