@@ -79,6 +79,20 @@ FUNCTIONS = {
         "answer": ["machine", "views"], "is_exact": ["machine", "views"], "lost_word": ["machine", "views"],
         "needless": ["machine", "views"],
     },
+    "texts": {
+        "word_text": ["letters", "word"], "machine_text": ["machine"], "pattern_text": ["letters", "pattern"],
+        "lots_text": ["table", "lots"], "guesser_text": ["guesser"], "views_text": ["views"],
+    },
+    "readers": {
+        "parse_word": ["letters", "text"], "parse_machine": ["text"], "parse_pattern": ["letters", "text"],
+        "parse_lots": ["table", "text"], "parse_guesser": ["text"], "parse_views": ["text"],
+    },
+    "claims": {
+        "claim_words": [], "is_claim": ["value"], "is_true": ["claim"], "contrary": ["claim"], "paper_of": ["claim"],
+        "is_paper_of": ["claim", "value"],
+    },
+    "commands": {"is_name": ["value"], "is_command": ["value"], "is_deed": ["value"]},
+    "desk": {"tried": ["desk", "action"]},
 }
 
 CLASSES = {
@@ -87,6 +101,18 @@ CLASSES = {
     "guessers": {
         "Guesser": (["letters", "steps", "begins", "ends"], ["letters", "states"], ["steps", "begins", "ends", "__eq__"]),
     },
+    "desk": {
+        "Desk": ([], ["names", "labels"], [
+            "__len__", "__getitem__", "__contains__", "__call__", "claim_of", "do", "do_all", "attempt", "attach", "fits",
+            "lines", "copy", "again"]),
+        "Trial": (["desk"], [], ["__enter__", "__exit__"]),
+    },
+}
+
+# The parameters of the methods of a Desk that have any, behind the desk itself.
+DESK_METHODS = {
+    "claim_of": ["label"], "do": ["command"], "__call__": ["command"], "do_all": ["commands"], "attempt": ["commands"],
+    "attach": ["label", "paper"], "fits": ["label"], "lines": [], "copy": [], "again": ["lines"],
 }
 
 ERRORS = {

@@ -136,6 +136,32 @@ EXAMPLES = '''
 [True, True, ['', 'b', 'aa', 'bb']]
 >>> [is_exact(even, [odd]), lost_word(even, [odd]), is_exact(even, [odd, b]), lost_word(even, [odd, b]), needless(even, [odd, b, even]), needless(even, [odd])]
 [False, 'b', True, None, [0, 1, 2], []]
+
+>>> from widefills.guessers import Guesser
+>>> from widefills.tables import Table
+>>> from widefills.texts import guesser_text, lots_text, machine_text, pattern_text, views_text, word_text
+>>> [machine_text(even), word_text(2, ""), lots_text(Table([even]), [[1, 0], []]), views_text([even, even]), pattern_text(2, ("either", ("behind", ("name", 0), ("word", "ab")), ("round", ("word", "")))), guesser_text(Guesser(2, [[[0, 1], []], [[], [1]]], [0], [1])), guesser_text(Guesser(1, [], [], []))]
+['2: 1,0; 0,1 / 0', '-', '0,1; -', '2: 1,0; 0,1 / 0 & 2: 1,0; 0,1 / 0', '((X.ab)|-*)', '2: 0 / 0+1,-; -,1 / 1', '1: - / none / -']
+
+>>> from widefills.readers import parse_guesser, parse_lots, parse_machine, parse_pattern, parse_views, parse_word
+>>> [parse_machine("2:1,0;0,1/0") == even, parse_word(2, " - "), parse_pattern(2, "( Y | a* )"), parse_pattern(1, "X**"), parse_lots(Table([even]), "1 , 0;-"), len(parse_views("1:0/0&1:0/-")), guesser_text(parse_guesser("1:0/1+0;-/1"))]
+[True, '', ('either', ('name', 1), ('round', ('word', 'a'))), ('round', ('round', ('name', 0))), [[0, 1], []], 2, '1: 0 / 0+1; - / 1']
+
+>>> from widefills.claims import contrary, is_claim, is_paper_of, is_true
+>>> twice, sums = ("behind", ("name", 0), ("name", 0)), Table([even])
+>>> [is_true(("within", sums, 0, twice, [[1]])), is_true(("right", sums, 1, [(twice, 0)], [[0, 1]])), is_paper_of(("right", sums, 1, [(twice, 0)], [[1]]), [[1]]), is_true(("made", sums, 0, twice)), is_paper_of(("unlike", 1, ("name", 0), ("word", "")), [0]), is_claim(("told", sums, 0, Guesser(1, [], [], [])))]
+[True, False, True, True, True, False]
+
+>>> from widefills.commands import is_command, is_deed
+>>> [is_command("machine m 2:1,0;0,1/0"), is_command("machine m 2: 1,0;0,1/0"), is_command("words m 2 a,-,ab"), is_command("pattern p ((X.ab)|-*)"), is_command("views v m,n"), is_deed("claim k right m 1 p f"), is_deed("fill m 1 p"), is_command("filling f 0,1;-")]
+[True, False, True, True, True, True, False, True]
+
+>>> from widefills.desk import Desk
+>>> desk = Desk()
+>>> desk.do_all("machine m 2:1,0;0,1/0", "pattern p (X.X)", "fill m 1 p", "filling f 1", "claim k within m p f", "claim l made m p", "grow f 0 0", "classes m", "pairs m", "show f")
+['-', '-', '0 1', '-', 'k true', 'l true', 'k false', '-,a', '4', '1,0']
+>>> desk.do_all("undo", "states", "words n 2 b,-", "views v m,n", "lost m v", "less m -", "first m", "star q p", "show q", "drop p")
+['grow f 0 0', 'k true, l true', '-', '-', 'none', 'l false', 'b', '-', '(X.X)*', 'k gone, l gone']
 '''
 
 

@@ -5,7 +5,7 @@ import importlib
 import inspect
 import unittest
 
-from interface import CLASSES, ERRORS, FUNCTIONS
+from interface import CLASSES, DESK_METHODS, ERRORS, FUNCTIONS
 
 
 def parameters(function):
@@ -33,7 +33,13 @@ class Interface(unittest.TestCase):
                 for own in properties:
                     self.assertIsInstance(vars(made)[own], property)
                 for own in methods:
-                    self.assertTrue(inspect.isfunction(vars(made)[own]), own)
+                    self.assertTrue(inspect.isfunction(vars(made)[own]) or own == "again", own)
+
+    def test_methods_of_the_desk(self):
+        desk = importlib.import_module("widefills.desk").Desk
+        self.assertIsInstance(vars(desk)["again"], classmethod)
+        for name, wanted in DESK_METHODS.items():
+            self.assertEqual(parameters(getattr(desk(), name)), wanted, name)
 
 
 class Errors(unittest.TestCase):

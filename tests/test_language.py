@@ -114,6 +114,45 @@ class Language(unittest.TestCase):
                 if isinstance(node, ast.Call) and isinstance(node.func, ast.Attribute):
                     self.assertIn(node.func.attr, METHODS + methods + ["__init__"], (name, node.lineno))
 
+    def test_properties(self):
+        """No attribute, and no method of another kind, has the name of a property."""
+        properties = {node.name for _, tree in trees() for node in ast.walk(tree) if isinstance(node, ast.FunctionDef)
+                      and any(isinstance(mark, ast.Name) and mark.id == "property" for mark in node.decorator_list)}
+        self.assertIn("names", properties)
+        for name, tree in trees():
+            for node in ast.walk(tree):
+                if isinstance(node, ast.Attribute) and isinstance(node.ctx, ast.Store):
+                    self.assertNotIn(node.attr, properties | {"keys", "items", "values", "args"}, name)
+                if isinstance(node, ast.ClassDef):
+                    own = [part for part in node.body if isinstance(part, ast.FunctionDef) and part.name in properties]
+                    self.assertTrue(all(part.decorator_list for part in own), name)
+
+    def test_beside_operators(self):
+        """What a class with __getitem__ rules out elsewhere."""
+        for name, tree in trees():
+            for node in ast.walk(tree):
+                if isinstance(node, ast.Call) and isinstance(node.func, ast.Name) and node.func.id == "reversed":
+                    inner = node.args[0]
+                    self.assertIn(inner.func.id, ("list", "tuple", "sorted", "range"), (name, node.lineno))
+                if isinstance(node, ast.ClassDef):
+                    methods = [part.name for part in node.body if isinstance(part, ast.FunctionDef)]
+                    self.assertEqual("__getitem__" in methods, "__iter__" in methods, name)
+                if isinstance(node, (ast.FunctionDef, ast.ClassDef)):
+                    self.assertNotIn(node.name, ("keys", "items", "values", "register", "open", "input"), name)
+
+    def test_errors_that_are_caught(self):
+        """Own errors alone are caught, and raised on the spot."""
+        errors = [part.name for part in dict(trees())["errors.py"].body if isinstance(part, ast.ClassDef)]
+        for name, tree in trees():
+            for node in ast.walk(tree):
+                if isinstance(node, ast.ExceptHandler):
+                    for part in ast.walk(node.type):
+                        if isinstance(part, ast.Name):
+                            self.assertIn(part.id, errors, (name, node.lineno))
+                if isinstance(node, ast.Raise):
+                    self.assertIsInstance(node.exc, ast.Call, (name, node.lineno))
+                    self.assertIn(node.exc.func.id, errors + ["TypeError"], (name, node.lineno))
+
     def test_no_loop_changes_what_it_goes_over(self):
         for name, tree in trees():
             for node in ast.walk(tree):

@@ -26,3 +26,10 @@ def are_unlike_below(value, limit):
     if not is_listing(value) or not all([is_below(part, limit) for part in value]):
         return False
     return len(set(value)) == len(value)
+
+
+def copied(value):
+    """The value, with new lists and tuples, also inside."""
+    if isinstance(value, list):
+        return [copied(part) for part in value]
+    return tuple([copied(part) for part in value]) if isinstance(value, tuple) else value

@@ -6,9 +6,14 @@ from widefills.errors import InvalidFilling, InvalidMany
 MOST_NAMES = 3
 
 
+def is_many(value):
+    """Whether the value is a number of names, or of lots."""
+    return is_integer(value) and 1 <= value <= MOST_NAMES
+
+
 def check_many(many):
     """Raise unless this is a number of names, or of lots."""
-    if not is_integer(many) or not 1 <= many <= MOST_NAMES:
+    if not is_many(many):
         raise InvalidMany(many)
 
 

@@ -19,11 +19,16 @@ def is_saying(table, value):
     return is_pattern_of(table.letters, pattern) and is_below(position, len(table.machines()))
 
 
+def are_sayings(table, value):
+    """Whether the value is a list of 1 to 3 sayings of the table."""
+    if not is_listing(value) or not 1 <= len(value) <= MOST_SAYINGS:
+        return False
+    return all([is_saying(table, saying) for saying in value])
+
+
 def check_sayings(table, sayings):
     """Raise unless these are sayings of the table."""
-    if not is_listing(sayings) or not 1 <= len(sayings) <= MOST_SAYINGS:
-        raise InvalidSayings(sayings)
-    if not all([is_saying(table, saying) for saying in sayings]):
+    if not are_sayings(table, sayings):
         raise InvalidSayings(sayings)
 
 

@@ -4,7 +4,7 @@ from widefills.basics import are_unlike_below, is_below, is_listing
 from widefills.errors import InvalidBegins, InvalidEnds, InvalidGuesser, InvalidState, InvalidSteps
 from widefills.fillings import mask_of
 from widefills.makings import told_by_guesses
-from widefills.subsets import alive, leading_to, led_from, let_beyond, no_weight, told_beyond
+from widefills.subsets import alive, leading_to, led_from, let_beyond, no_weight, stepped, told_beyond
 from widefills.words import SIGNS, check_letters
 
 GREATEST_GUESSER = 40
@@ -90,6 +90,19 @@ def first_beyond(beyond, guesser, machine):
     steps, begins = alive(step_masks(guesser), mask_of(guesser.begins()), ends)
     letters = beyond(steps, begins, ends, machine.steps(), machine.ends(), no_weight)
     return None if letters is None else "".join([SIGNS[letter] for letter in letters])
+
+
+def is_telling(guesser, machine):
+    """Whether the guesser tells just what the machine lets."""
+    return first_mistold(guesser, machine) is None and first_untold(guesser, machine) is None
+
+
+def is_told(guesser, word):
+    """Whether the guesser tells the word of its letters."""
+    steps, states = step_masks(guesser), mask_of(guesser.begins())
+    for sign in word:
+        states = stepped(steps[SIGNS.index(sign)], states)
+    return bool(states & mask_of(guesser.ends()))
 
 
 def tells(guesser):

@@ -95,7 +95,7 @@ def marks(subset, tests):
 def endings(steps, ends, letters, tests):
     """The tests that are not there yet, of the endings of a word: the subsets from which they lead to an end."""
     found, test, known = [], ends, {one: True for one in tests}
-    for letter in reversed(letters):
+    for letter in letters[::-1]:
         test = stepped_back(steps[letter], test)
         if test not in known:
             known[test] = True

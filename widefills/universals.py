@@ -3,7 +3,7 @@
 from widefills.basics import are_unlike_below, is_below, is_listing
 from widefills.errors import InvalidPlaces, NotOfUse, NotTold
 from widefills.fillings import lot_of
-from widefills.guessers import Guesser, check_guesser, first_mistold, first_untold, is_of_use
+from widefills.guessers import Guesser, check_guesser, is_of_use, is_telling
 from widefills.machines import check_like_letters
 from widefills.pairs import pair_over, pairs
 from widefills.tables import check_position, check_table
@@ -58,11 +58,6 @@ def map_to(table, position, guesser):
         raise NotOfUse()
     told = pairs(table, position)
     return [told.index(pair_over(table, position, lot)) for lot in pasts_of(table, guesser)]
-
-
-def is_telling(guesser, machine):
-    """Whether the guesser tells just what the machine lets."""
-    return first_mistold(guesser, machine) is None and first_untold(guesser, machine) is None
 
 
 def pasts_of(table, guesser):

@@ -8,9 +8,14 @@ LONGEST_WORD = 60
 GREATEST_LENGTH = 6
 
 
+def is_letters(value):
+    """Whether the value is a number of letters."""
+    return is_integer(value) and 1 <= value <= len(SIGNS)
+
+
 def check_letters(letters):
     """Raise unless this is a number of letters."""
-    if not is_integer(letters) or not 1 <= letters <= len(SIGNS):
+    if not is_letters(letters):
         raise InvalidLetters(letters)
 
 
