@@ -6,7 +6,7 @@ from random import Random
 from helpers import stopped
 from widefills.errors import TooMany
 from widefills.least import least_form
-from widefills.subsets import least_of_guesses
+from widefills.subsets import alive, least_by_tests, least_of_guesses
 
 
 def least_by_all_subsets(steps, begins, ends):
@@ -54,6 +54,12 @@ def cycles(*lengths):
     return [rows], begins, ends
 
 
+def by_tests(steps, begins, ends):
+    """Also where there are few subsets, without making all of them."""
+    steps, begins = alive(steps, begins, ends)
+    return least_by_tests(steps, begins, ends)
+
+
 class Guesses(unittest.TestCase):
 
     def test_against_all_subsets(self):
@@ -64,16 +70,19 @@ class Guesses(unittest.TestCase):
                 wanted = least_by_all_subsets(steps, begins, ends)
             except TooMany:
                 stopped(self, TooMany, least_of_guesses, steps, begins, ends)
+                stopped(self, TooMany, by_tests, steps, begins, ends)
                 continue
             self.assertEqual(least_of_guesses(steps, begins, ends), wanted, seed)
+            self.assertEqual(by_tests(steps, begins, ends), wanted, seed)
             many.append(len(wanted[0]))
         self.assertGreater(max(many), 20)
 
     def test_at_the_bound(self):
-        self.assertEqual(len(least_of_guesses(*far_from_the_end(5))[0]), 32)
-        for many in (6, 10, 40):
-            error = stopped(self, TooMany, least_of_guesses, *far_from_the_end(many))
-            self.assertEqual((error.what, error.limit), ("states", 60))
+        for function in (least_of_guesses, by_tests):
+            self.assertEqual(len(function(*far_from_the_end(5))[0]), 32)
+            for many in (6, 10, 40):
+                error = stopped(self, TooMany, function, *far_from_the_end(many))
+                self.assertEqual((error.what, error.limit), ("states", 60))
 
     def test_small_though_there_are_many_subsets(self):
         """Whatever follows, the word is told: no subset but the first kind is kept."""
@@ -84,20 +93,22 @@ class Guesses(unittest.TestCase):
 
     def test_first_wrong_far_away(self):
         """All words are told but those whose length is a multiple of all lengths."""
-        for lengths, many in (((3, 4), 12), ((4, 5), 20), ((3, 4, 5), 60)):
-            self.assertEqual(least_of_guesses(*cycles(*lengths)), (
-                [[(state + 1) % many] for state in range(many)], list(range(1, many))))
-        for lengths in ((7, 9), (3, 5, 7), (2, 3, 5, 7, 11), (3, 5, 7, 11)):
-            error = stopped(self, TooMany, least_of_guesses, *cycles(*lengths))
-            self.assertEqual((error.what, error.limit), ("states", 60))
-        rows, begins, ends = cycles(2, 3, 5, 7, 11)
-        # With both states of the cycle of two as ends all words are told.
-        self.assertEqual(least_of_guesses(rows, begins, ends | 1), ([[0]], [0]))
+        for function in (least_of_guesses, by_tests):
+            for lengths, many in (((3, 4), 12), ((4, 5), 20), ((3, 4, 5), 60)):
+                self.assertEqual(function(*cycles(*lengths)), (
+                    [[(state + 1) % many] for state in range(many)], list(range(1, many))))
+            for lengths in ((7, 9), (3, 5, 7), (2, 3, 5, 7, 11), (3, 5, 7, 11)):
+                error = stopped(self, TooMany, function, *cycles(*lengths))
+                self.assertEqual((error.what, error.limit), ("states", 60))
+            rows, begins, ends = cycles(2, 3, 5, 7, 11)
+            # With both states of the cycle of two as ends all words are told.
+            self.assertEqual(function(rows, begins, ends | 1), ([[0]], [0]))
 
     def test_nothing_told(self):
-        self.assertEqual(least_of_guesses([[0], [0]], 0, 1), ([[0, 0]], []))
-        self.assertEqual(least_of_guesses([[1], [1]], 1, 0), ([[0, 0]], []))
-        self.assertEqual(least_of_guesses([[]], 0, 0), ([[0]], []))
+        for function in (least_of_guesses, by_tests):
+            self.assertEqual(function([[0], [0]], 0, 1), ([[0, 0]], []))
+            self.assertEqual(function([[1], [1]], 1, 0), ([[0, 0]], []))
+            self.assertEqual(function([[]], 0, 0), ([[0]], []))
 
 
 if __name__ == "__main__":

@@ -13,7 +13,7 @@ from widefills.pairs import pairs
 from widefills.readings import stays_within
 from widefills.roots import is_round
 from widefills.tables import Table
-from widefills.texts import (guesser_text, machine_text, views_text, written_lists, written_pattern, written_word)
+from widefills.texts import guesser_text, machine_text, views_text, written_lists, written_pattern, written_word
 from widefills.views import is_sure
 
 
@@ -78,7 +78,7 @@ def answer_of_kept(keeping, words, told):
     if word == "claimed":
         return " ".join(keeping.claims[words[1]])
     if word == "names":
-        return " ".join(sorted(keeping.things)) if keeping.things else "-"
+        return " ".join(sorted(list(keeping.things))) if keeping.things else "-"
     if word == "show":
         return written(told[0][0], told[0][1])
     return yes_or_no(told[0][1] == told[1]) if word == "same" else None

@@ -4,8 +4,7 @@ from widefills.answers import answer
 from widefills.claims import is_true
 from widefills.errors import InvalidPattern, InvalidPosition, InvalidViews, NoneThere, TooMany
 from widefills.guessers import Guesser, of_use, tells
-from widefills.keeping import (claim_told, state_word, thing_of, with_claim, with_thing, without_claim,
-                               without_thing)
+from widefills.keeping import claim_told, state_word, with_claim, with_thing, without_claim, without_thing
 from widefills.lots import lot_machine
 from widefills.machines import Machine
 from widefills.makings import behind, joined, met, of_words, rounds, without

@@ -36,12 +36,12 @@ class Desk:
     @property
     def names(self):
         """The sorted list of the names under which something is kept."""
-        return sorted(self._held.keeping.things)
+        return sorted(list(self._held.keeping.things))
 
     @property
     def labels(self):
         """The sorted list of the labels under which claims are noted."""
-        return sorted(self._held.keeping.claims)
+        return sorted(list(self._held.keeping.claims))
 
     def __len__(self):
         return len(self._held.done)

@@ -4,7 +4,7 @@ from widefills.errors import TooMany
 from widefills.fillings import lot_of
 from widefills.guessers import first_untold
 from widefills.pairs import pairs
-from widefills.universals import part
+from widefills.universals import guesser_of, part
 
 MOST_CHOSEN_AMONG = 10
 
@@ -21,19 +21,19 @@ def least_guesser(table, position):
 
 def fewest_places(table, position):
     """The sorted list of all rising lists of the fewest places whose part tells just what the machine lets."""
-    many = len(pairs(table, position))
-    if many > MOST_CHOSEN_AMONG:
+    told, machine = pairs(table, position), table.machines()[position]
+    if len(told) > MOST_CHOSEN_AMONG:
         raise TooMany("pairs", MOST_CHOSEN_AMONG)
-    chosen = [lot_of(mask) for mask in range(1 << many)]
-    for size in range(many):
-        found = [places for places in chosen
-                 if len(places) == size and lost_by(table, position, places) is None]
+    # No part tells a word that the machine does not let: those that tell all that it lets are looked for.
+    chosen = [lot_of(mask) for mask in range(1 << len(told))]
+    for size in range(len(told)):
+        found = [places for places in chosen if len(places) == size
+                 and first_untold(guesser_of(table, [told[place] for place in places]), machine) is None]
         if found:
             return sorted(found)
-    return [list(range(many))]
+    return [list(range(len(told)))]
 
 
 def lost_by(table, position, places):
     """The first word that the machine lets and the part of the places does not tell, None if there is none."""
-    # No part tells a word that the machine does not let.
     return first_untold(part(table, position, places), table.machines()[position])

@@ -1,15 +1,19 @@
 """The least machine of what is told by guessing, where a letter may lead to several states at once.
 
 States are bits, a lot of states is an integer, its SUBSET. Making all subsets may take endlessly long, also where the
-least machine is small, or is soon seen to be too large. So only as many subsets are kept as words found so far, the
-TESTS, tell apart: these are the KINDS. Whether they tell just what is guessed is then shown, or a word is found by
-whose endings more of them are told apart.
+least machine is small, or is soon seen to be too large. So where there are many, only as many are kept as words found
+so far, the TESTS, tell apart: these are the KINDS. Whether they tell just what is guessed is then shown, or a word is
+found by whose endings more of them are told apart.
 """
 
 from heapq import heappop, heappush
 
+from widefills.errors import TooMany
 from widefills.fillings import lot_of
-from widefills.least import GREATEST_STATES, explored
+from widefills.least import GREATEST_STATES, explored, least_form
+
+# How many subsets, each as often as there are states, are made before it is done without making all of them.
+MOST_WORK = 1000000
 
 
 def stepped(rows, subset):
@@ -57,6 +61,19 @@ def least_of_guesses(steps, begins, ends):
     steps are, for each letter, the rows: for each state the subset of its next states. TooMany as of least_form.
     """
     steps, begins = alive(steps, begins, ends)
+
+    def lead(subset, letter):
+        return stepped(steps[letter], subset)
+
+    try:
+        subsets, leads = explored(begins, len(steps), lead, "subsets", MOST_WORK // (len(steps[0]) + 1))
+    except TooMany:
+        return least_by_tests(steps, begins, ends)
+    return least_form(len(steps), leads, [place for place, subset in enumerate(subsets) if subset & ends])
+
+
+def least_by_tests(steps, begins, ends):
+    """The same, made without all subsets."""
     tests = [ends]
     while True:
         kept, leads = told_apart(steps, begins, tests)
