@@ -7,7 +7,7 @@ from helpers import JUNK, all_words, chain, stopped, wrongs
 from test_guessers import CASES, PICK, WRONG_GUESSERS, cycles, far_from_the_end, parts_of, ways
 from test_machines import EVEN
 from test_middles import EVENS, positions
-from test_pairs import ALL_32, ALL_64, JUST_33, SMALL
+from test_pairs import ALL_32, ALL_64, JUST_33, SMALL, by_hand
 from test_tables import BOTH, WRONG_POSITIONS, WRONG_TABLES
 from widefills.errors import (InvalidGuesser, InvalidPlaces, InvalidPosition, NotOfUse, NotTold, TooMany,
                               UnlikeLetters)
@@ -28,7 +28,7 @@ SOME = positions(SMALL[::4])
 
 def one_by_hand(table, position):
     """Letters, steps, begins and ends of the one machine, put together by products of classes."""
-    told = pairs(table, position)
+    told = by_hand(table, position) if table.classes <= 6 else pairs(table, position)
     letters = [class_of(table, sign) for sign in "abc"[:table.letters]]
     steps = [[[at for at, far in enumerate(told) if all(product(table, one, sign) in far[0] for one in near[0])]
               for sign in letters] for near in told]
