@@ -142,13 +142,16 @@ def told_beyond(steps, begins, ends, leads, stops, weigh):
 def let_beyond(steps, begins, ends, leads, stops, weigh):
     """The letters of a word that the kinds let, and that is not guessed, found likewise; None if there is none."""
     # What is wrong of a subset is so of those within it. So those within which another one of the kind lies are not
-    # gone on with. (De Wulf, Doyen, Henzinger, Raskin 2006: antichains.)
-    seen = [[] for _ in leads]
+    # gone on with. (De Wulf, Doyen, Henzinger, Raskin 2006: antichains.) Only smaller ones need be looked through.
+    seen = [{} for _ in leads]
 
     def fresh(kind, subset):
-        if any([less & ~subset == 0 for less in seen[kind]]):
+        size, found = size_of(subset), seen[kind]
+        if subset in found.get(size, {}):
             return None
-        seen[kind].append(subset)
+        if any([any([less & ~subset == 0 for less in found[other]]) for other in found if other < size]):
+            return None
+        found.setdefault(size, {})[subset] = True
         return subset
 
     def is_wrong(kind, subset):
